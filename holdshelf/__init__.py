@@ -1,0 +1,1 @@
+"""Holdshelf: many wishes answered together, with what fits on the shelf."""
