@@ -16,6 +16,12 @@ BUILTINS = set(
     "StopIteration NotImplemented super property staticmethod classmethod object".split()
 )
 
+BUILTIN_METHODS = set(
+    "append clear copy count endswith extend find get index insert isalnum isalpha isdigit islower isspace isupper "
+    "items join keys ljust lower lstrip partition pop remove replace reverse rfind rjust rpartition rsplit rstrip "
+    "setdefault split splitlines startswith strip update upper values zfill bit_length __init__".split()
+)
+
 BARRED = re.compile(
     r"\b(type|typing|typing_extensions|enum|Enum|IntEnum|StrEnum|Flag|IntFlag|Generic|Protocol|ABC|ABCMeta"
     r"|namedtuple|NamedTuple|TypedDict|TYPE_CHECKING|abstractmethod)\b|dataclass|overload|contextmanager"
@@ -108,6 +114,30 @@ class Language(unittest.TestCase):
                     self.assertNotIn(node.arg, top, path)
                 if isinstance(node, ast.Name) and isinstance(node.ctx, ast.Store) and node.id not in top:
                     self.assertNotIn(node.id, BUILTINS, path)
+
+    def test_no_name_is_a_method_and_an_attribute(self):
+        methods, attributes = set(), set()
+        for path, tree in self.trees():
+            for node in ast.walk(tree):
+                if isinstance(node, ast.ClassDef):
+                    methods.update(row.name for row in node.body if isinstance(row, ast.FunctionDef))
+                if isinstance(node, ast.Attribute) and isinstance(node.ctx, ast.Store):
+                    attributes.add(node.attr)
+        self.assertEqual(methods & attributes, set())
+        for name in attributes | methods - {"__init__"}:
+            for builtin in (str, int, list, dict, set, bytes):
+                self.assertFalse(hasattr(builtin, name), name)
+
+    def test_methods_are_own_ones_or_of_the_list(self):
+        own = set()
+        for path, tree in self.trees():
+            for node in ast.walk(tree):
+                if isinstance(node, ast.ClassDef):
+                    own.update(row.name for row in node.body if isinstance(row, ast.FunctionDef))
+        for path, tree in self.trees():
+            for node in ast.walk(tree):
+                if isinstance(node, ast.Call) and isinstance(node.func, ast.Attribute):
+                    self.assertIn(node.func.attr, own | BUILTIN_METHODS, path)
 
     def test_no_barred_statements_values_and_builtins(self):
         for path, tree in self.trees():
