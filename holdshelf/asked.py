@@ -16,11 +16,17 @@ class Asked:
         self.names = tuple(below(book, wishes))
         self.wishes = in_order(wishes, self.names)
         self.sizes = {name: size for name, recipe, size, cost in book}
+        self.costs = {name: cost for name, recipe, size, cost in book}
         self.needs = {name: in_order(names_in(recipe), self.names) for name, recipe, size, cost in book}
 
     def load_of(self, names):
         """Tell the sizes of some parts together."""
         return sum([self.sizes[name] for name in names])
+
+    def cost_of(self, deed):
+        """Tell what a deed costs; drops cost nothing."""
+        word, name = deed
+        return self.costs[name] if word == "make" else 0
 
     def least_load(self):
         """Tell the room without which some part, with what it needs, is never on the shelf."""

@@ -26,6 +26,32 @@ def walk(maze):
     return ways, None
 
 
+def cheap_walk(maze, price):
+    """Tell (ways, costs): how each stand is come to at the least cost, ends leading no further, and this cost.
+
+    The price of a step is a whole number from 0 on.
+    """
+    start = maze.first_stand()
+    ways = {start: None}
+    costs = {start: 0}
+    waiting = {0: [start]}
+    while waiting:
+        cost = min(waiting)
+        stand = waiting[cost].pop()
+        if not waiting[cost]:
+            del waiting[cost]
+        # A stand that was come to for less since then has been left for less too.
+        if cost > costs[stand] or maze.is_end(stand):
+            continue
+        for step, after in maze.leads(stand):
+            total = cost + price(step)
+            if after not in costs or total < costs[after]:
+                ways[after] = (stand, step)
+                costs[after] = total
+                waiting.setdefault(total, []).append(after)
+    return ways, costs
+
+
 def steps_to(ways, end):
     """Tell the steps that led from the start to a stand."""
     steps = []

@@ -68,6 +68,10 @@ class Language(unittest.TestCase):
         for path in files():
             yield path, ast.parse(path.read_text(encoding="utf-8"))
 
+    def own_methods(self):
+        classes = [node for path, tree in self.trees() for node in ast.walk(tree) if isinstance(node, ast.ClassDef)]
+        return {row.name for node in classes for row in node.body if isinstance(row, ast.FunctionDef)}
+
     def test_the_folder_has_plain_files_alone(self):
         for path in FOLDER.rglob("*"):
             if "__pycache__" not in path.parts and not path.is_dir():
@@ -116,11 +120,9 @@ class Language(unittest.TestCase):
                     self.assertNotIn(node.id, BUILTINS, path)
 
     def test_no_name_is_a_method_and_an_attribute(self):
-        methods, attributes = set(), set()
+        methods, attributes = self.own_methods(), set()
         for path, tree in self.trees():
             for node in ast.walk(tree):
-                if isinstance(node, ast.ClassDef):
-                    methods.update(row.name for row in node.body if isinstance(row, ast.FunctionDef))
                 if isinstance(node, ast.Attribute) and isinstance(node.ctx, ast.Store):
                     attributes.add(node.attr)
         self.assertEqual(methods & attributes, set())
@@ -129,15 +131,19 @@ class Language(unittest.TestCase):
                 self.assertFalse(hasattr(builtin, name), name)
 
     def test_methods_are_own_ones_or_of_the_list(self):
-        own = set()
-        for path, tree in self.trees():
-            for node in ast.walk(tree):
-                if isinstance(node, ast.ClassDef):
-                    own.update(row.name for row in node.body if isinstance(row, ast.FunctionDef))
+        own = self.own_methods()
         for path, tree in self.trees():
             for node in ast.walk(tree):
                 if isinstance(node, ast.Call) and isinstance(node.func, ast.Attribute):
                     self.assertIn(node.func.attr, own | BUILTIN_METHODS, path)
+
+    def test_own_methods_are_called_where_they_stand(self):
+        own = self.own_methods()
+        for path, tree in self.trees():
+            called = {node.func for node in ast.walk(tree) if isinstance(node, ast.Call)}
+            for node in ast.walk(tree):
+                if isinstance(node, ast.Attribute) and node.attr in own:
+                    self.assertIn(node, called, (path, node.attr))
 
     def test_no_barred_statements_values_and_builtins(self):
         for path, tree in self.trees():
